@@ -1,0 +1,1 @@
+"""Gridlocks: two programs and the locks they share."""
