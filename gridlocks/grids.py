@@ -1,4 +1,4 @@
-"""The grid of a pair: its open places, and where each step leads."""
+"""The grid of a pair: its open places, where each step leads, and all ways through it."""
 
 from gridlocks.programs import all_held
 
@@ -11,14 +11,18 @@ def end_of(pair):
 
 
 def open_places(pair):
-    """Return a dict whose keys are all places that are not barred, ascending."""
+    """Return the dict of all places that are not barred, ascending, each with its moves.
+
+    A move is a tuple: a program whose next step can be done there, and the place behind it.
+    """
     columns = all_held(pair.other)
-    return {
+    found = {
         (i, j): True
         for i, held in enumerate(all_held(pair.one))
         for j, locks in enumerate(columns)
         if not share_lock(held, locks)
     }
+    return {place: moves_from(found, place) for place in found}
 
 
 def share_lock(held, locks):
@@ -32,33 +36,40 @@ def step_to(place, which):
     return (i + 1, j) if which == 0 else (i, j + 1)
 
 
+def moves_from(found, place):
+    """List, ascending, the moves from a place to places that are found open."""
+    moves = [(0, step_to(place, 0)), (1, step_to(place, 1))]
+    # A place beyond a program's end is none of the grid, so it is not found either.
+    return [(which, ahead) for which, ahead in moves if ahead in found]
+
+
 def steps_from(grid, place):
     """List, ascending, the programs whose next step can be done at a place."""
-    # A place beyond a program's end is none of the grid, so it is not open either.
-    return [which for which in (0, 1) if step_to(place, which) in grid]
+    return [which for which, ahead in grid[place]]
 
 
-def least_ways(grid):
-    """Return a dict of the least way to each place to which some way comes."""
-    least = {START: ()}
-    # The places ascend, so each stands behind those from which a step leads to it.
-    for place in grid:
-        if place in least:
-            for which in steps_from(grid, place):
-                ahead = step_to(place, which)
-                way = (*least[place], which)
+# A graph is the grid itself, or another dict of nodes, each with its moves to others. Each node
+# stands in it behind all those from which a move leads to it, as the ascending places do.
+
+
+def least_ways(graph, start=START):
+    """Return a dict of the least way to each node to which some way comes."""
+    least = {start: ()}
+    for node, moves in graph.items():
+        if node in least:
+            for which, ahead in moves:
+                way = (*least[node], which)
                 least[ahead] = min(way, least.get(ahead, way))
     return least
 
 
-def many_ways(grid):
-    """Return a dict of how many ways come to each place to which some way comes."""
-    many = {START: 1}
-    for place in grid:
-        if place in many:
-            for which in steps_from(grid, place):
-                ahead = step_to(place, which)
-                many[ahead] = many.get(ahead, 0) + many[place]
+def many_ways(graph, start=START):
+    """Return a dict of how many ways come to each node to which some way comes."""
+    many = {start: 1}
+    for node, moves in graph.items():
+        if node in many:
+            for which, ahead in moves:
+                many[ahead] = many.get(ahead, 0) + many[node]
     return many
 
 
@@ -66,6 +77,6 @@ def saved_places(grid, end):
     """Return a dict whose keys are all open places from which some way comes to the end."""
     saved = {end: True}
     for place in reversed(list(grid)):
-        if any([step_to(place, which) in saved for which in (0, 1)]):
+        if any([ahead in saved for which, ahead in grid[place]]):
             saved[place] = True
     return saved
