@@ -1,8 +1,9 @@
 """Ways through the grid of a pair: where they come, and where they get stuck."""
 
-from gridlocks.errors import BadPlace, BadWay
+from gridlocks.errors import BadPlace
 from gridlocks.grids import (
-    START, end_of, least_ways, many_ways, open_places, saved_places, step_to, steps_from,
+    caught_standings, count_caught, count_done, end_of, least_caught, many_ways, open_places,
+    saved_standings, standings_along, steps_from,
 )
 from gridlocks.programs import is_number
 
@@ -23,15 +24,7 @@ def _is_place(pair, value):
 
 def places(pair, way):
     """List the places of a way, the first one at its beginning."""
-    if not isinstance(way, tuple):
-        raise BadWay(None)
-    grid = open_places(pair)
-    found = [START]
-    for index, which in enumerate(way):
-        if not is_number(which, 1) or which not in steps_from(grid, found[-1]):
-            raise BadWay(index)
-        found.append(step_to(found[-1], which))
-    return found
+    return standings_along(open_places(pair), way)
 
 
 def word(pair, way):
@@ -41,43 +34,36 @@ def word(pair, way):
 
 def word_at(pair, place):
     """Tell how a way stands that is at a place."""
-    grid, end = open_places(pair), end_of(pair)
-    if place == end:
+    grid = open_places(pair)
+    if place == end_of(grid):
         return "done"
     if not steps_from(grid, place):
         return "stuck"
-    return "free" if place in saved_places(grid, end) else "sure"
+    return "free" if place in saved_standings(grid) else "sure"
 
 
 def stuck(pair):
     """List, ascending, the places at which some way gets stuck."""
-    grid, end = open_places(pair), end_of(pair)
-    return sorted([
-        place for place in many_ways(grid) if place != end and not steps_from(grid, place)
-    ])
+    return caught_standings(open_places(pair))
 
 
 def sure(pair):
     """List, ascending, the places to which a way comes, but from which none comes to the end."""
     grid = open_places(pair)
-    saved = saved_places(grid, end_of(pair))
+    saved = saved_standings(grid)
     return sorted([place for place in many_ways(grid) if place not in saved])
 
 
 def shortest_stuck(pair):
     """Return the least of the shortest ways that get stuck, None if there is none."""
-    least = least_ways(open_places(pair))
-    found = [least[place] for place in stuck(pair)]
-    return min(found, key=lambda way: (len(way), way), default=None)
+    return least_caught(open_places(pair))
 
 
 def count_ways(pair):
     """Return how many ways come to the end."""
-    # Running one program behind the other always comes there, so the key is always found.
-    return many_ways(open_places(pair))[end_of(pair)]
+    return count_done(open_places(pair))
 
 
 def count_stuck(pair):
     """Return how many ways get stuck."""
-    many = many_ways(open_places(pair))
-    return sum([many[place] for place in stuck(pair)])
+    return count_caught(open_places(pair))

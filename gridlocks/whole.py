@@ -1,20 +1,16 @@
 """Ways that come to the end: whether each is as good as one program behind the other."""
 
-from gridlocks.errors import Unfinished
-from gridlocks.grids import START, end_of, least_ways, many_ways, open_places
+from gridlocks.grids import end_of, least_ways, many_ways, open_places, standings_to_end
 from gridlocks.pairs import blocks
-from gridlocks.ways import places
 
-# Which programs have had a lock first: 1 for the program 0, 2 for the program 1, or their sum.
-NOBODY = 0
+# Leaders tell which programs have had a lock first: 0 for none of them, 1 for the program 0, 2 for
+# the program 1, and their sum for both.
 BOTH = 3
 
 
 def sides(pair, way):
     """Return the tuple that tells for each block which program has its lock first by a way."""
-    road = places(pair, way)
-    if road[-1] != end_of(pair):
-        raise Unfinished("the way does not come to the end")
+    road = standings_to_end(open_places(pair), way)
     ones, others = [i for i, _ in road], [j for _, j in road]
     return tuple([
         0 if ones.index(first) < others.index(begin) else 1
@@ -30,14 +26,14 @@ def is_whole(pair, way):
 
 def count_whole(pair):
     """Return how many ways that come to the end are whole."""
-    many, end = many_ways(_led_places(pair), (START, NOBODY)), end_of(pair)
+    many, end = many_ways(_led_places(pair)), end_of(open_places(pair))
     return sum([many.get((end, leaders), 0) for leaders in range(BOTH)])
 
 
 def torn(pair):
     """Return the least way that comes to the end and is not whole, None if there is none."""
-    least = least_ways(_led_places(pair), (START, NOBODY))
-    return least.get((end_of(pair), BOTH))
+    least = least_ways(_led_places(pair))
+    return least.get((end_of(open_places(pair)), BOTH))
 
 
 def _led_places(pair):
